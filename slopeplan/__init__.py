@@ -1,0 +1,1 @@
+"""Plans of accounts, with every sensitivity told exactly."""
