@@ -23,6 +23,7 @@ class FaultTest(unittest.TestCase):
         rules = [(GROW, 0, 0, 0), (PAY, 0, 0, 0), (MOVE, 0, 1, 0), (SHARE, 0, 1, 0), (PULL, 0, 1, 0)]
         self.assertEqual(last(plan(2, 1, [0, -1], rules), put(0, 1), fault(20)), [0])
 
+    # Values stay as they are set, so a division by 0 is always in the first period; later faults are of weight.
     def test_the_first_rule_with_a_fault_is_told(self):
         divide = (OVER, 0, 0, 1)
         grow = (GROW, 0, 0, 0)

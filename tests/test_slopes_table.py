@@ -136,13 +136,13 @@ class RefusalTest(unittest.TestCase):
         found = ask(*heavy, slopes(0, 7), slopes(1, 7), table(7), run(20), fault(20))[2:]
         self.assertEqual(found, [[4] + first, [-6], [-6], [2, 0, 1, 0, 1], [0]])
 
-    def test_heavy_amounts_with_light_slopes(self):
-        # The amount has 1 over 2 ** 1510 or so; its slope by parameter 0 too, but not that of account 1.
+    def test_only_what_is_told_counts(self):
+        # Account 0 is 1 over 2 ** 1593, and so is its slope by parameter 0; account 1 stays light.
         rules = [(OVER, 0, 0, 1)] * 9
         found = ask(plan(2, 3, [0, 2], rules), put(1, 1, 2 ** 59, 1, 5, 1), run(3), path(0, 3), slopes(0, 3),
                     slopes(1, 3), table(3))[2:]
         self.assertEqual(found, [[-6], [-6], [-6], [3, 0, 1, 0, 1, 1, 1], [-6]])
-        # Here a heavy amount that hangs on nothing heavy: the slopes of 2 ** 1500 by what's paid are as light as 20.
+        # Account 0 is 2 ** 3980; only account 1 is paid from.
         found = ask(*powers(0, [(PAY, 1, 0, 5)], [1, 1], accounts=2), run(20), slopes(1, 20), slopes(0, 20))[2:]
         self.assertEqual(found, [[-6], [6] + [0, 1] * 5 + [-20, 1], [-6]])
 
