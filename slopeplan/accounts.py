@@ -3,7 +3,10 @@
 from slopeplan.books import Book
 
 # For each call: how many whole numbers it has, and how many lists behind these.
-SHAPES = {0: (2, 2), 1: (0, 1), 2: (1, 0), 3: (1, 0), 4: (2, 0), 5: (2, 0), 6: (1, 0)}
+SHAPES = {
+    0: (2, 2), 1: (0, 1), 2: (1, 0), 3: (1, 0), 4: (2, 0), 5: (2, 0), 6: (1, 0),
+    7: (1, 1), 8: (3, 0), 9: (2, 1), 10: (3, 1), 11: (2, 1), 12: (1, 0), 13: (1, 0),
+}
 
 
 class Reader:
@@ -62,4 +65,18 @@ def answer_one(book, call, numbers, rows):
         return book.path(numbers[0], numbers[1])
     if call == 5:
         return book.slopes(numbers[0], numbers[1])
-    return book.table(numbers[0])
+    if call == 6:
+        return book.table(numbers[0])
+    if call == 7:
+        return book.pull(numbers[0], rows[0])
+    if call == 8:
+        return book.elastic(numbers[0], numbers[1], numbers[2])
+    if call == 9:
+        return book.what_if(numbers[0], numbers[1], rows[0])
+    if call == 10:
+        return book.aim(numbers[0], numbers[1], numbers[2], rows[0])
+    if call == 11:
+        return book.first(numbers[0], numbers[1], rows[0])
+    if call == 12:
+        return book.total(numbers[0])
+    return book.code(numbers[0])

@@ -1,7 +1,6 @@
 """A plan run at some values, period by period."""
 
 from slopeplan.plans import OVER
-from slopeplan.ratios import is_above
 from slopeplan.sheets import after_rule, first_sheet
 
 DIVISION_BY_ZERO = 1
@@ -12,11 +11,11 @@ LINE_WEIGHT = 4000
 class Course:
     """Goes on only as far as it is asked, and keeps what it has: the code of t periods begins all longer ones."""
 
-    def __init__(self, plan, ratios):
+    def __init__(self, plan, ratios, has_slopes):
         self.plan_rules = plan.rules
         self.ratios = ratios
         # The sheets before the first period and after each that is done.
-        self.sheets = [first_sheet(plan, ratios)]
+        self.sheets = [first_sheet(plan, ratios, has_slopes)]
         # The first fault as period, place and number; empty while there is none.
         self.first_fault = []
 
@@ -33,27 +32,20 @@ class Course:
         period = len(self.sheets)
         sheet = self.sheets[period - 1]
         for place, rule in enumerate(self.plan_rules, start=1):
-            ratio = self.ratios[rule.p]
-            if rule.kind == OVER and ratio[0] == 0:
+            if rule.kind == OVER and self.ratios[rule.p][0] == 0:
                 self.first_fault = [period, place, DIVISION_BY_ZERO]
                 return
-            sheet = after_rule(sheet, rule, ratio)
+            sheet = after_rule(sheet, rule)
             if has_heavy_line(sheet):
                 self.first_fault = [period, place, TOO_HEAVY]
                 return
         self.sheets.append(sheet)
 
-    def amounts(self, t):
-        """Every account's amount after t periods, which must be without a fault."""
-        sheet = self.sheets[t]
-        return [(row[0], sheet.scale) for row in sheet.rows]
-
-    def slopes_of(self, a, t):
-        """The slopes of a by each parameter after t periods, which must be without a fault."""
-        sheet = self.sheets[t]
-        return [(number, sheet.scale) for number in sheet.rows[a][1:]]
+    def after(self, t):
+        """The sheet after t periods, which must have been found to be without a fault."""
+        return self.sheets[t]
 
 
 def has_heavy_line(sheet):
-    # The other lines, inputs and constants and 1 plus an input, are light: values have numbers up to 10^18.
-    return any([is_above(line, sheet.scale, LINE_WEIGHT) for line in sheet.lines])
+    # The other lines, inputs and constants and 1 plus an input, are light: no value that is tried weighs above 1500.
+    return any([sheet.scale.is_heavy(line, LINE_WEIGHT) for line in sheet.lines])

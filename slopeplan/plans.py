@@ -1,5 +1,10 @@
 """Plans, and the form of the lists that tell them."""
 
+GROW = 0
+PAY = 1
+MOVE = 2
+SHARE = 3
+PULL = 4
 OVER = 5
 LAST_KIND = 5
 # grow, pay and over

@@ -2,7 +2,7 @@
 
 
 def common_divisor(first, second):
-    """The greatest common divisor; above 0 where second is."""
+    """The greatest common divisor, with the sign of second."""
     while second:
         rest = first % second
         first = second
@@ -14,7 +14,15 @@ def common_multiple(first, second):
     return first // common_divisor(first, second) * second
 
 
+def common_denominator(ratios):
+    found = 1
+    for ratio in ratios:
+        found = common_multiple(found, ratio[1])
+    return found
+
+
 def lowest(numerator, denominator):
+    # A denominator below 0 has such a divisor, and becomes one above 0.
     divisor = common_divisor(numerator, denominator)
     return (numerator // divisor, denominator // divisor)
 
@@ -24,12 +32,25 @@ def weight(ratio):
     return ratio[0].bit_length() + ratio[1].bit_length()
 
 
-def is_above(numerator, denominator, most):
-    """Whether the weight, in lowest terms, is above most."""
-    # Lowest terms are never heavier, so most fractions are spared the search for a divisor.
-    if weight((numerator, denominator)) <= most:
-        return False
-    return weight(lowest(numerator, denominator)) > most
+def added(ratio, other):
+    return lowest(ratio[0] * other[1] + other[0] * ratio[1], ratio[1] * other[1])
+
+
+def less(ratio, other):
+    return lowest(ratio[0] * other[1] - other[0] * ratio[1], ratio[1] * other[1])
+
+
+def multiplied(ratio, other):
+    return lowest(ratio[0] * other[0], ratio[1] * other[1])
+
+
+def divided(ratio, other):
+    """ratio over other, which is not 0."""
+    return lowest(ratio[0] * other[1], ratio[1] * other[0])
+
+
+def is_below(ratio, other):
+    return ratio[0] * other[1] < other[0] * ratio[1]
 
 
 def read_ratios(numbers, count):

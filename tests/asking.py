@@ -42,6 +42,34 @@ def table(t):
     return [6, t]
 
 
+def pull(t, *weights):
+    return [7, t, len(weights), *weights]
+
+
+def elastic(a, p, t):
+    return [8, a, p, t]
+
+
+def what_if(a, t, *values):
+    return [9, a, t, len(values), *values]
+
+
+def aim(a, p, t, *target):
+    return [10, a, p, t, len(target), *target]
+
+
+def first(a, t, *limit):
+    return [11, a, t, len(limit), *limit]
+
+
+def total(t):
+    return [12, t]
+
+
+def code(t):
+    return [13, t]
+
+
 def split(numbers):
     """The answers of single calls, from one list of all."""
     found = []
@@ -83,3 +111,10 @@ def powers(b, rules=(), numbers=(), accounts=1, sign=1):
     told.extend(numbers)
     begins = [0] + [-1] * (accounts - 1)
     return [plan(accounts, len(told) // 2, begins, growing + list(rules)), put(*told)]
+
+
+def shifted(count):
+    """One account that is 2 ** count after five periods; count is a little below 1500."""
+    rest = count - 5 * 5 * 59
+    rules = [(GROW, 0, 0, 1)] * 5
+    return [plan(1, 2, [0], rules), put(2 ** rest, 1, 2 ** 59 - 1, 1)]

@@ -2,6 +2,8 @@
 
 from fractions import Fraction
 
+# In the order of their numbers in what code answers.
+KINDS = ("input", "constant", "sum", "difference", "product", "quotient")
 LINE_WEIGHT = 4000
 TOLD_WEIGHT = 1500
 
@@ -116,3 +118,79 @@ def expected(parameters, begins, rules, values, t):
         answers.append(told([parameters], rows[a]))
     answers.append(told([accounts, parameters], [cell for row in rows for cell in row]))
     return answers
+
+
+def told_code(code):
+    """What code answers."""
+    numbers = [len(code.lines)]
+    for kind, i, j in code.lines:
+        if kind == "input":
+            numbers.extend([0, i])
+        elif kind == "constant":
+            numbers.extend([1, i, 1])
+        else:
+            numbers.extend([KINDS.index(kind), i, j])
+    return numbers + code.now
+
+
+class Sensitive:
+    """What the calls from pull to total answer for a good plan and values."""
+
+    def __init__(self, parameters, begins, rules, values, t):
+        self.parameters = parameters
+        self.values = values
+        self.code = Code(parameters, begins, rules, t)
+        self.found, self.fault = work_out(self.code, values)
+        if not self.fault:
+            by = [slopes_by(self.code, self.found, p) for p in range(parameters)]
+            self.amounts = [self.found[line] for line in self.code.now]
+            self.slopes = [[by[p][line] for p in range(parameters)] for line in self.code.now]
+
+    def amount_at(self, a, values):
+        """The amount of a at other values, or None where there is a fault."""
+        found, fault = work_out(self.code, values)
+        return None if fault else found[self.code.now[a]]
+
+    def pull(self, weights):
+        if self.fault:
+            return [-5]
+        pulled = [sum(weight * row[p] for weight, row in zip(weights, self.slopes)) for p in range(self.parameters)]
+        return told([self.parameters], [Fraction(slope) for slope in pulled])
+
+    def elastic(self, a, p):
+        if self.fault:
+            return [-5]
+        if self.amounts[a] == 0:
+            return [0]
+        return told([1], [self.slopes[a][p] * self.values[p] / self.amounts[a]])
+
+    def what_if(self, a, others):
+        actual = self.amount_at(a, others)
+        if self.fault or actual is None:
+            return [-5]
+        guess = self.amounts[a]
+        for slope, other, value in zip(self.slopes[a], others, self.values):
+            guess += slope * (other - value)
+        return told([3], [actual, guess, actual - guess])
+
+    def aim(self, a, p, target):
+        if self.fault:
+            return [-5]
+        if self.slopes[a][p] == 0:
+            return [0]
+        value = self.values[p] + (target - self.amounts[a]) / self.slopes[a][p]
+        amount = self.amount_at(a, self.values[:p] + [value] + self.values[p + 1:])
+        if amount is None:
+            return told([1], [value])
+        return told([2], [value, amount])
+
+    def first(self, a, limit):
+        if self.fault:
+            return [-5]
+        for period, lines in enumerate(self.code.history):
+            if self.found[lines[a]] < limit:
+                return told([1, period], [self.found[lines[a]]])
+        return [0]
+
+    def total(self):
+        return [-5] if self.fault else told([1], [sum(self.amounts)])

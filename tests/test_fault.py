@@ -83,7 +83,8 @@ class FaultTest(unittest.TestCase):
     def test_the_share_is_a_line(self):
         # With a for b the amount is in the end what it was, and weighs 4000 in the last period.
         for q, told in ((1, [0]), (2, [1, 20, 5, 2]), (-1, [1, 20, 5, 2])):
-            found = last(*powers(18, [(SHARE, 0, 0, 5)], [q, 1]), fault(20))
+            # Parameter 6 counts for nothing.
+            found = last(*powers(18, [(SHARE, 0, 0, 5)], [q, 1, 3, 1]), fault(20))
             self.assertEqual(found, told)
 
     def test_both_changes_of_move_are_lines(self):
@@ -96,9 +97,9 @@ class FaultTest(unittest.TestCase):
 
     def test_the_product_in_pull_is_a_line(self):
         # Account 1 is made -1, then pulls 2 ** 3999: that weighs 4001, and what it becomes weighs 4000.
-        rules = [(GROW, 1, 0, 5), (PAY, 1, 0, 6), (PULL, 1, 0, 7)]
+        rules = [(GROW, 1, 0, 6), (PAY, 1, 0, 7), (PULL, 1, 0, 5)]
         for q, told in ((1, [0]), (2, [1, 20, 7, 2])):
-            found = last(*powers(18, rules, [-1, 1, 1, 1, q, 1], accounts=2), fault(20))
+            found = last(*powers(18, rules, [q, 1, -1, 1, 1, 1], accounts=2), fault(20))
             self.assertEqual(found, told)
 
     def test_what_pull_makes_is_a_line(self):

@@ -103,6 +103,27 @@ class LanguageTest(unittest.TestCase):
                 if isinstance(node, ast.Name):
                     self.assertTrue(node.id in bound or node.id in OWN_NAMES, f"{path.name}: {node.id}")
 
+    def test_names_at_the_top_are_bound_once_and_not_hidden(self):
+        for path, text, tree in self.each():
+            top = []
+            guarded = set()
+            for node in tree.body:
+                if isinstance(node, ast.ImportFrom):
+                    top.extend(alias.name for alias in node.names)
+                    guarded.update(alias.name for alias in node.names)
+                elif isinstance(node, (ast.FunctionDef, ast.ClassDef)):
+                    top.append(node.name)
+                    guarded.update([node.name] if isinstance(node, ast.ClassDef) else [])
+                elif isinstance(node, ast.Assign):
+                    top.append(node.targets[0].id)
+            self.assertEqual(len(top), len(set(top)))
+            for node in ast.walk(tree):
+                if isinstance(node, ast.FunctionDef):
+                    inner = {part.arg for part in ast.walk(node) if isinstance(part, ast.arg)}
+                    inner |= {part.id for part in ast.walk(node)
+                              if isinstance(part, ast.Name) and isinstance(part.ctx, ast.Store)}
+                    self.assertEqual(inner & guarded, set(), path.name)
+
     def test_methods_and_values_have_different_names(self):
         methods = set()
         values = set()

@@ -3,7 +3,8 @@
 import unittest
 from fractions import Fraction
 
-from asking import GREAT, GROW, MOVE, OVER, PAY, PULL, SHARE, ask, fault, last, path, plan, powers, put, run
+from asking import (GREAT, GROW, MOVE, OVER, PAY, PULL, SHARE, ask, fault, last, path, plan, powers, put, run,
+                    shifted)
 
 LOAN = [plan(1, 3, [0], [(GROW, 0, 0, 1), (PAY, 0, 0, 2)]), put(1000, 1, 1, 10, 300, 1)]
 
@@ -151,13 +152,6 @@ class RefusalTest(unittest.TestCase):
 
     def test_fault_comes_before_told_weight(self):
         self.assertEqual(ask(*powers(19), run(19), run(20), path(0, 19), path(0, 20))[2:], [[-6], [-5], [-6], [-5]])
-
-
-def shifted(count):
-    """One account that is 2 ** count after five periods; count is a little below 1500."""
-    rest = count - 5 * 5 * 59
-    rules = [(GROW, 0, 0, 1)] * 5
-    return [plan(1, 2, [0], rules), put(2 ** rest, 1, 2 ** 59 - 1, 1)]
 
 
 if __name__ == "__main__":

@@ -57,6 +57,10 @@ class SlopesTest(unittest.TestCase):
     def test_over(self):
         self.assertEqual(one_rule(OVER, 0, 0), cells([(4, 3), 0, (-40, 9)], [0, 1, 0]))
         self.assertEqual(one_rule(OVER, 1, 0), cells([1, 0, 0], [0, (4, 3), (-112, 27)]))
+        # 1 over 1/4, and over -1/4: 4 and -4, with the slopes -16.
+        for q in (1, -1):
+            found = last(plan(1, 2, [0], [(OVER, 0, 0, 1)]), put(1, 1, q, 4), slopes(0, 1))
+            self.assertEqual(found, [2, 4 * q, 1, -16, 1])
         # 5/2 over the square of -3/4: the slope is -2 * 5/2 over the third power.
         found = last(plan(1, 2, [0], [(OVER, 0, 0, 1)]), put(5, 2, -3, 4), slopes(0, 2))
         self.assertEqual(found, [2, 16, 9, 320, 27])
